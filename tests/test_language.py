@@ -1,0 +1,91 @@
+"""The rules of the language that are plainly seen in a file: its characters, sizes, imports and statements."""
+
+import ast
+import re
+import unittest
+from pathlib import Path
+
+PACKAGE = Path(__file__).resolve().parent.parent / "turnedends"
+FILES = sorted(PACKAGE.rglob("*.py"))
+LIBRARY = {
+    "heapq": {"heappush", "heappop", "heapify", "heapreplace", "heappushpop"},
+    "math": {"gcd", "lcm", "isqrt", "comb", "perm", "factorial"},
+    "itertools": {"product", "combinations", "permutations"},
+}
+BARRED = (ast.Global, ast.AsyncFunctionDef, ast.AsyncFor, ast.AsyncWith, ast.Await, ast.Import, ast.Div)
+BUILTINS = {"len", "range", "enumerate", "zip", "min", "max", "sum", "abs", "sorted", "reversed", "int", "str", "bool",
+            "list", "tuple", "dict", "set", "isinstance", "ord", "repr", "any", "all", "divmod", "super", "iter",
+            "next", "map"}
+
+
+def trees():
+    """Each file of the package with its text and its syntax tree."""
+    found = []
+    for path in FILES:
+        text = path.read_text("utf-8")
+        found.append((path.name, text, ast.parse(text)))
+    return found
+
+
+def builtins_called(tree):
+    """The bare names that are called in a file and are not bound in it."""
+    bound = {node.name for node in ast.walk(tree) if isinstance(node, (ast.FunctionDef, ast.ClassDef))}
+    bound |= {name.name for node in ast.walk(tree) if isinstance(node, ast.ImportFrom) for name in node.names}
+    bound |= {node.id for node in ast.walk(tree) if isinstance(node, ast.Name) and isinstance(node.ctx, ast.Store)}
+    bound |= {node.arg for node in ast.walk(tree) if isinstance(node, ast.arg)}
+    called = {node.func.id for node in ast.walk(tree) if isinstance(node, ast.Call) and isinstance(node.func, ast.Name)}
+    return called - bound
+
+
+class LanguageTest(unittest.TestCase):
+
+    def test_the_package_has_files_of_its_own_alone(self):
+        self.assertGreater(len(FILES), 3)
+        for path in PACKAGE.rglob("*"):
+            if path.name != "__pycache__" and path.parent.name != "__pycache__":
+                self.assertRegex(path.name, r"^(__init__|[a-z][a-z0-9_]*)\.py$")
+
+    def test_characters_and_sizes(self):
+        for name, text, tree in trees():
+            lines = text.split("\n")
+            self.assertIsNone(re.search("[^ -~\n]", text), name)
+            self.assertLess(len(lines), 400, name)
+            self.assertLessEqual(max([len(line) for line in lines]), 120, name)
+            for node in ast.walk(tree):
+                if isinstance(node, ast.FunctionDef):
+                    self.assertLessEqual(node.end_lineno - node.lineno + 1, 40, node.name)
+
+    def test_imports(self):
+        for name, _, tree in trees():
+            for node in ast.walk(tree):
+                if isinstance(node, ast.ImportFrom):
+                    self.assertIn(node, tree.body, name)
+                    self.assertEqual(node.level, 0, name)
+                    own = node.module.startswith("turnedends.")
+                    for word in node.names:
+                        self.assertIsNone(word.asname, name)
+                        self.assertTrue(own or word.name in LIBRARY.get(node.module, ()), (name, word.name))
+
+    def test_statements(self):
+        for name, _, tree in trees():
+            for node in ast.walk(tree):
+                self.assertNotIsInstance(node, BARRED, name)
+                if isinstance(node, ast.Constant):
+                    self.assertNotIsInstance(node.value, (float, complex), name)
+                    self.assertFalse(isinstance(node.value, str) and "%" in node.value, name)
+
+    def test_module_level(self):
+        for name, _, tree in trees():
+            for node in tree.body:
+                docstring = isinstance(node, ast.Expr) and isinstance(node.value, ast.Constant)
+                self.assertTrue(docstring or isinstance(
+                    node, (ast.ImportFrom, ast.FunctionDef, ast.ClassDef, ast.Assign)), name)
+
+    def test_builtins(self):
+        for name, _, tree in trees():
+            errors = {word for word in builtins_called(tree) if word.endswith("Error")}
+            self.assertEqual(builtins_called(tree) - errors - BUILTINS, set(), name)
+
+
+if __name__ == "__main__":
+    unittest.main()

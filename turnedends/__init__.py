@@ -1,0 +1,1 @@
+"""Ends of lines that are turned whenever texts are taken in and put out."""
