@@ -1,6 +1,7 @@
-"""What several tests share: short texts, ways, what is wrong, and the conversions place by place."""
+"""What several tests share: short texts, ways, what is wrong, and what the document says, place by place."""
 
-from itertools import product
+import re
+from itertools import combinations, product
 
 SIGNS = "anr"
 WORDS = ("all", "both", "care", "lone", "lones", "pairs")
@@ -42,6 +43,20 @@ WRONG_WAYS = ODD + ("", "all", "care", ("all",) * 7, ("pairs", "care") * 4, ("",
                     ("bare",), ("paired",), ("pairs care",), (None,), (True,), (0,), (Equal(),), (b"all",),
                     (["all"],), (("all",),), ({},), ("pairs", "x"), ("x", "pairs"), ("pairs", None, "care"))
 WRONG_SIGNS = ODD + ((), ("a",), "", "an", "rn", "anr", "nr", "aa", "b", "A", "\r", "\n", "x", " ", "a ")
+WRONG_NUMBERS = tuple([odd for odd in ODD if odd.__class__ is not int])
+WRONG_NUMBERS += ("0", "1", (), (1,), -1, -2, 10 ** 30, -10 ** 30)
+WRONG_LIMITS = WRONG_NUMBERS + (5, 6, 9)
+WRONG_ROUNDS = WRONG_NUMBERS + (10, 11)
+WRONG_PRICES = ODD + (
+    (), "all", ("all",), [("all", 1)], {"all": 0}, {"all": 10}, {"all": -1}, {"all": True}, {"all": False},
+    {"all": "1"}, {"all": None}, {"all": (1,)}, {"all": [1]}, {"all": Equal()}, {"all": 10 ** 30}, {"All": 1}, {"": 1},
+    {"any": 1}, {"all ": 1}, {b"all": 1}, {1: 1}, {True: 1}, {None: 1}, {("all",): 1}, {Equal(): 1},
+    {"all": 1, "x": 1}, {"x": 1, "all": 1}, {"all": 1, "pairs": 0}, {"pairs": True, "all": 1},
+    {"all": 1, "both": 1, "care": 1, "lone": 1, "lones": 1, "pairs": 10},
+    {"all": 1, "both": 1, "care": 1, "lone": 1, "lones": 1, "pairs": 1, "any": 1})
+# Some that are no texts, though they are strings.
+NO_TEXTS = ("x", "xrn", "rnx", "b", "N", "R", " ", "rn\n", "\r\n", "a n", "\u0430")
+PATTERNS = {"any": "[anr]*", "bare": "[an]*", "lone": "[ar]*", "paired": "(a|rn)*"}
 
 
 def texts(longest):
@@ -73,3 +88,66 @@ def by_places(way, text):
         around = ["", *text, ""]
         text = "".join([one_place(word, around[k], around[k + 1], around[k + 2]) for k in range(len(text))])
     return text
+
+
+def texts_of(kind, longest):
+    """All texts of a kind of at most so many signs, the shortest ones first."""
+    return [text for text in texts(longest) if re.fullmatch(PATTERNS[kind], text)]
+
+
+def signs_behind(kind, waits):
+    """The signs that can come for a kind, as the document has them."""
+    if kind == "paired":
+        return "n" if waits else "ar"
+    return {"bare": "an", "lone": "ar", "any": "anr"}[kind]
+
+
+class Images:
+    """What all texts of at most so many signs become by ways, from the words of the document; each is found once."""
+
+    def __init__(self, longest):
+        self.longest = longest
+        self.texts = texts(longest)
+        self.of_kind = {kind: texts_of(kind, longest) for kind in PATTERNS}
+        self.found = {(): {text: text for text in self.texts}}
+
+    def of(self, way):
+        if way not in self.found:
+            ahead = self.of(way[:-1])
+            self.found[way] = {text: by_places(way[-1:], ahead[text]) for text in self.texts}
+        return self.found[way]
+
+
+def check_refusals(test, calls, arguments):
+    """Each call refuses each wrong argument with its error, and of two wrong ones the one that is named first.
+
+    An argument is a triple: a value that is right, those that are wrong, and the error; the calls take them in order.
+    """
+    right = [argument[0] for argument in arguments]
+    for k, (_, wrongs, error) in enumerate(arguments):
+        for wrong in wrongs:
+            for call in calls:
+                with test.subTest(call=call, at=k, wrong=wrong), test.assertRaises(error):
+                    call(*right[:k], wrong, *right[k + 1:])
+    for k, m in combinations(range(len(arguments)), 2):
+        for wrong, later in product(arguments[k][1], arguments[m][1]):
+            for call in calls:
+                with test.subTest(call=call, at=(k, m), wrong=(wrong, later)), test.assertRaises(arguments[k][2]):
+                    call(*right[:k], wrong, *right[k + 1:m], later, *right[m + 1:])
+    everything = [argument[1][0] for argument in arguments]
+    for call in calls:
+        test.assertRaises(arguments[0][2], call, *everything)
+
+
+def check_equality(test, equal, different):
+    """Objects that are made alike are equal, all the others are not, neither are they equal to anything else."""
+    for one, other in product(equal, repeat=2):
+        test.assertIs(one == other, True)
+        test.assertIs(one != other, False)
+    for one, other in product(equal, different + [None, True, 0, 1, "", "n", (), [], {}, object()]):
+        for first, second in ((one, other), (other, one)):
+            test.assertIs(first == second, False, (first, second))
+            test.assertIs(first != second, True, (first, second))
+    for one in equal:
+        test.assertIs(one == Equal(), False)
+        test.assertIs(one != Equal(), True)

@@ -17,6 +17,28 @@ EXAMPLES = {
 >>> [[turned((word,), text) for word in CONVERSIONS], read(way, (False, False), 'r'), read(way, (True, False), 'n'), at_end(way, (True, False)), sorted(all_standings(way))]
 [['arrnrrarn', 'annnan', 'arnrrarn', 'arrrrar', 'arnnnan', 'anrran'], ((True, False), ''), ((False, False), 'rn'), 'r', [(False, False), (True, False), (True, True)]]
 """,
+    "comparing": """
+>>> from turnedends.comparing import Alike, Parted, are_alike, first_parting, returns
+>>> [are_alike(('pairs', 'all'), ('care',), 'any'), first_parting(('all',), ('care',), 'any'), are_alike(('all',), ('care',), 'bare'), [returns(('pairs', 'care'), kind) for kind in ('any', 'bare', 'paired')], Parted('arn').shows(('all',), ('care',), 'any'), Alike([]).shows((), (), 'bare')]
+[True, 2, True, [False, False, True], True, False]
+""",
+    "leading": """
+>>> from turnedends.leading import Strays, does_lead, first_stray
+>>> [does_lead(('both',), 'any', 'bare'), does_lead(('both', 'all'), 'any', 'paired'), [first_stray(('care',), kind, 'paired') for kind in ('any', 'bare', 'lone')], first_stray(('all',), 'paired', 'paired'), Strays('arn').shows(('all',), 'paired', 'paired')]
+[True, True, [1, None, 1], 2, True]
+""",
+    "resting": """
+>>> from turnedends.resting import Restless, least_rounds, rest, rounds
+>>> [rounds(('all',), 'an', 3), [least_rounds((word,), 'any', 4) for word in ('all', 'both', 'care', 'pairs')], [least_rounds(('pairs',), kind, 4) for kind in ('bare', 'paired')], rest(('pairs',), 'paired', 1).number, Restless(['n', 'n']).shows(('all',), 'bare', 1)]
+[['arn', 'arrn', 'arrrn'], [None, 1, 1, None], [0, 1], 1, True]
+""",
+    "drafting": """
+>>> from turnedends.drafting import cheapest, drafts, least_price
+>>> way = ('pairs', 'all')
+>>> found = [least_price(way, prices, 'any') for prices in ({'care': 2, 'pairs': 1, 'all': 1}, {'care': 1}, {'both': 1}, {'all': 1, 'pairs': 3})]
+>>> [found, drafts({'care': 2, 'all': 1})[:6], list(cheapest(way, {'care': 2, 'all': 1}, 'any').partings), least_price(way, {'all': 1}, 'bare')]
+[[2, 1, None, 4], [(), ('all',), ('care',), ('all', 'all'), ('all', 'care'), ('care', 'all')], [(), ('all',)], 1]
+""",
 }
 
 

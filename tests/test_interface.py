@@ -13,11 +13,47 @@ FUNCTIONS = {
         "at_end": "(way, standing)",
         "all_standings": "(way)",
     },
+    "comparing": {
+        "compare": "(one, other, kind)",
+        "are_alike": "(one, other, kind)",
+        "first_parting": "(one, other, kind)",
+        "returns": "(way, kind)",
+    },
+    "leading": {
+        "lead": "(way, kind, other)",
+        "does_lead": "(way, kind, other)",
+        "first_stray": "(way, kind, other)",
+    },
+    "resting": {
+        "rounds": "(way, text, many)",
+        "rest": "(way, kind, limit)",
+        "least_rounds": "(way, kind, limit)",
+    },
+    "drafting": {
+        "drafts": "(prices)",
+        "cheapest": "(way, prices, kind)",
+        "least_price": "(way, prices, kind)",
+    },
 }
 CLASSES = {
     "errors": ("TurnError", "BadText", "BadKind", "BadWay", "BadStanding", "BadSign", "BadRounds", "BadLimit",
                "BadPrices", "BadOffers", "TooMany", "NothingDone", "BadFlag", "BadWanted", "BadLines"),
+    "comparing": ("Alike", "Parted"),
+    "leading": ("Leads", "Strays"),
+    "resting": ("Rests", "Restless"),
+    "drafting": ("Cheapest", "NoDraft"),
 }
+# For each class with evidence, what it is made of, and the arguments of its method.
+EVIDENCE = {
+    "comparing": {"Alike": ("rows", "(self, one, other, kind)"), "Parted": ("text", "(self, one, other, kind)")},
+    "leading": {"Leads": ("places", "(self, way, kind, other)"), "Strays": ("text", "(self, way, kind, other)")},
+    "resting": {"Rests": ("number, rows, texts", "(self, way, kind, limit)"),
+                "Restless": ("texts", "(self, way, kind, limit)")},
+    "drafting": {"Cheapest": ("draft, rows, partings", "(self, way, prices, kind)"),
+                 "NoDraft": ("partings", "(self, way, prices, kind)")},
+}
+# What an attribute may be, by its name.
+VALUES = {"rows": [], "text": "a", "texts": ["n"], "places": [], "number": 1, "draft": ("all",), "partings": {(): "n"}}
 
 
 class InterfaceTest(unittest.TestCase):
@@ -38,6 +74,18 @@ class InterfaceTest(unittest.TestCase):
                 found = getattr(module, word)
                 self.assertTrue(inspect.isclass(found), word)
                 self.assertEqual(found.__module__, module.__name__, word)
+
+    def test_the_evidence(self):
+        for name, classes in EVIDENCE.items():
+            module = importlib.import_module("turnedends." + name)
+            for word, (made_of, arguments) in classes.items():
+                kind = getattr(module, word)
+                self.assertEqual(kind.__bases__, (object,), word)
+                self.assertEqual(str(inspect.signature(kind)), f"({made_of})", word)
+                self.assertEqual(str(inspect.signature(vars(kind)["shows"])), arguments, word)
+                attributes = made_of.split(", ")
+                found = kind(**{key: VALUES[key] for key in attributes})
+                self.assertEqual(vars(found), {key: VALUES[key] for key in attributes}, word)
 
 
 if __name__ == "__main__":

@@ -1,6 +1,7 @@
 """The rules of the language that are plainly seen in a file: its characters, sizes, imports and statements."""
 
 import ast
+import builtins
 import re
 import unittest
 from pathlib import Path
@@ -16,6 +17,11 @@ BARRED = (ast.Global, ast.AsyncFunctionDef, ast.AsyncFor, ast.AsyncWith, ast.Awa
 BUILTINS = {"len", "range", "enumerate", "zip", "min", "max", "sum", "abs", "sorted", "reversed", "int", "str", "bool",
             "list", "tuple", "dict", "set", "isinstance", "ord", "repr", "any", "all", "divmod", "super", "iter",
             "next", "map"}
+# Names that stand nowhere, and such that are no names of variables, functions, classes or methods.
+BARRED_NAMES = {"register", "mro", "elements", "open", "input", "law", "version_info", "with_traceback", "add_note",
+                "attrgetter", "breakpoint", "builtins", "compile", "copyright", "credits", "delattr", "dir", "eval", "exec",
+                "exit", "gc", "getattr", "globals", "hasattr", "help", "id", "importlib", "license", "locals",
+                "methodcaller", "os", "quit", "setattr", "type", "vars", "sys", "__name__"}
 
 
 def trees():
@@ -35,6 +41,15 @@ def builtins_called(tree):
     bound |= {node.arg for node in ast.walk(tree) if isinstance(node, ast.arg)}
     called = {node.func.id for node in ast.walk(tree) if isinstance(node, ast.Call) and isinstance(node.func, ast.Name)}
     return called - bound
+
+
+def names_bound(tree):
+    """The names of the functions, parameters and variables in a file or a function; not those of methods."""
+    methods = [node for outer in ast.walk(tree) if isinstance(outer, ast.ClassDef) for node in outer.body]
+    found = {node.name for node in ast.walk(tree) if isinstance(node, ast.FunctionDef) and node not in methods}
+    found |= {node.name for node in ast.walk(tree) if isinstance(node, ast.ClassDef)}
+    found |= {node.id for node in ast.walk(tree) if isinstance(node, ast.Name) and isinstance(node.ctx, ast.Store)}
+    return found | {node.arg for node in ast.walk(tree) if isinstance(node, ast.arg)}
 
 
 class LanguageTest(unittest.TestCase):
@@ -80,6 +95,46 @@ class LanguageTest(unittest.TestCase):
                 docstring = isinstance(node, ast.Expr) and isinstance(node.value, ast.Constant)
                 self.assertTrue(docstring or isinstance(
                     node, (ast.ImportFrom, ast.FunctionDef, ast.ClassDef, ast.Assign)), name)
+
+    def test_what_takes_a_list_beside_a_class_that_compares(self):
+        for name, text, tree in trees():
+            self.assertNotIn(".sort(", text, name)
+            for node in ast.walk(tree):
+                self.assertNotIsInstance(node, ast.GeneratorExp, name)
+
+    def test_names(self):
+        for name, _, tree in trees():
+            imported = [word.name for node in tree.body if isinstance(node, ast.ImportFrom) for word in node.names]
+            classes = [node.name for node in tree.body if isinstance(node, ast.ClassDef)]
+            self.assertEqual(len(imported), len(set(imported)), name)
+            # What doctest shows is kept in the builtins as `_`, too.
+            for word in names_bound(tree) - {"_"}:
+                self.assertFalse(hasattr(builtins, word), (name, word))
+                self.assertNotIn(word, BARRED_NAMES, name)
+                self.assertRegex(word, "^_?[A-Za-z][A-Za-z0-9_]*$", name)
+            for function in [node for node in ast.walk(tree) if isinstance(node, ast.FunctionDef)]:
+                for word in names_bound(function) - {function.name}:
+                    self.assertNotIn(word, imported + classes, (name, function.name))
+
+    def test_words(self):
+        for name, text, tree in trees():
+            for node in ast.walk(tree):
+                if isinstance(node, (ast.Name, ast.Attribute)):
+                    word = node.id if isinstance(node, ast.Name) else node.attr
+                    self.assertNotIn(word, BARRED_NAMES, name)
+            self.assertNotRegex(text, "dataclass|overload|contextmanager|namedtuple|Protocol|_wall|_WallAttr", name)
+
+    def test_no_two_files_import_from_each_other(self):
+        imports = {}
+        for path in FILES:
+            tree = ast.parse(path.read_text("utf-8"))
+            imports[path.stem] = [node.module.split(".")[1] for node in tree.body if isinstance(node, ast.ImportFrom)
+                                  and node.module.startswith("turnedends.")]
+        done = []
+        while len(done) < len(imports):
+            ready = [stem for stem in imports if stem not in done and set(imports[stem]) <= set(done)]
+            self.assertNotEqual(ready, [], sorted(set(imports) - set(done)))
+            done += ready
 
     def test_builtins(self):
         for name, _, tree in trees():

@@ -21,32 +21,46 @@ _HELD = {"both": ("", "n"), "lones": ("r", "n"), "pairs": ("", "r")}
 _PLAIN = {"all": "rn", "lone": "r"}
 
 
+def is_conversion(word):
+    """Returns whether word is one of the six conversions."""
+    # Asked first for a string, for other objects may call themselves equal to a word.
+    return isinstance(word, str) and word in CONVERSIONS
+
+
 def check_way(way):
     """Raises BadWay unless way is a tuple of at most six conversions."""
     if not isinstance(way, tuple) or len(way) > LONGEST:
         raise BadWay("a way is a tuple of at most six conversions")
-    # Asked first for a string, for other objects may call themselves equal to a word.
-    if not all([isinstance(word, str) and word in CONVERSIONS for word in way]):
+    if not all([is_conversion(word) for word in way]):
         raise BadWay("each item of a way is a conversion")
+
+
+def is_standing(way, standing):
+    """Returns whether standing is one of a way of any length."""
+    if not isinstance(standing, tuple) or len(standing) != len(way):
+        return False
+    return all([isinstance(flag, bool) and not (flag and word in _PLAIN) for word, flag in zip(way, standing)])
 
 
 def check_standing(way, standing):
     """Raises BadStanding unless standing is one of the way, which is checked already."""
-    if not isinstance(standing, tuple) or len(standing) != len(way):
-        raise BadStanding("a standing is a tuple with a boolean for each conversion")
-    for word, flag in zip(way, standing):
-        if not isinstance(flag, bool) or flag and word in _PLAIN:
-            raise BadStanding("a standing has booleans, False where nothing is held back or remembered")
+    if not is_standing(way, standing):
+        raise BadStanding("a standing has a boolean for each conversion, False where nothing is held or remembered")
+
+
+def turn(way, text):
+    """Returns what `turned` does, of a way of any length, without checks."""
+    for word in way:
+        for old, new in _REPLACED[word]:
+            text = text.replace(old, new)
+    return text
 
 
 def turned(way, text):
     """Returns a text turned by a way."""
     check_way(way)
     check_text(text)
-    for word in way:
-        for old, new in _REPLACED[word]:
-            text = text.replace(old, new)
-    return text
+    return turn(way, text)
 
 
 def _read_one(word, flag, sign):
@@ -81,10 +95,25 @@ def step(way, standing, sign):
     return tuple(behind), text
 
 
+def ending(way, standing):
+    """Returns what `at_end` does, of a way of any length, without checks."""
+    text = ""
+    for word, flag in zip(way, standing):
+        flag_behind, text = _read_all(word, flag, text)
+        if flag_behind and word in _HELD:
+            text = text + _HELD[word][1]
+    return text
+
+
+def starting(way):
+    """Returns what `first_standing` does, of a way of any length, without checks."""
+    return (False,) * len(way)
+
+
 def first_standing(way):
     """Returns the standing in which nothing has been read."""
     check_way(way)
-    return (False,) * len(way)
+    return starting(way)
 
 
 def read(way, standing, sign):
@@ -100,12 +129,7 @@ def at_end(way, standing):
     """Returns the text that is given out at the end."""
     check_way(way)
     check_standing(way, standing)
-    text = ""
-    for word, flag in zip(way, standing):
-        flag_behind, text = _read_all(word, flag, text)
-        if flag_behind and word in _HELD:
-            text = text + _HELD[word][1]
-    return text
+    return ending(way, standing)
 
 
 def all_standings(way):
