@@ -285,8 +285,12 @@ class AlikeTest(unittest.TestCase):
     def test_what_is_no_row(self):
         standing = ((False,), (False,), False, "", "")
         for row in ODD + ((), standing[:4], standing + ("",), ((), (False,), False, "", ""), ((0,), (0,), 0, "", ""),
-                          ((True,), (False,), False, "", ""), ((False,), (False,), 0, "", ""), list(standing)):
+                          ((True,), (False,), False, "", ""), ((False,), (True,), False, "", ""),
+                          ((False,), (), False, "", ""), ((False,), (False,), 0, "", ""), list(standing)):
             self.assertIs(Alike([standing, row]).shows(("all",), ("all",), "any"), False, row)
+        for text in ODD:
+            for row in (standing[:3] + (text, ""), standing[:3] + ("", text)):
+                self.assertIs(Alike([standing, row]).shows(("all",), ("all",), "any"), False, row)
 
     def test_rows_of_other_ways(self):
         rows = compare(("care",), ("care",), "any").rows

@@ -272,8 +272,9 @@ class CheapestTest(unittest.TestCase):
             partings = {key: "n" for key in drafts(prices)}
             for some in ({}, {(): "n"}, partings):
                 self.assertIs(Cheapest(draft, rows, some).shows(draft, prices, "any"), False, draft)
-        for draft in ODD:
-            self.assertIs(Cheapest(draft, [FIRST], {}).shows((), {"all": 1}, "any"), False)
+        for odd in ODD:
+            for draft in (odd, (odd,)):
+                self.assertIs(Cheapest(draft, [FIRST], {}).shows((), {"all": 1}, "any"), False)
 
     def test_the_current_attributes(self):
         way, prices = ("care",), {"pairs": 1, "all": 1}
