@@ -54,6 +54,11 @@ WRONG_PRICES = ODD + (
     {"all": 1, "x": 1}, {"x": 1, "all": 1}, {"all": 1, "pairs": 0}, {"pairs": True, "all": 1},
     {"all": 1, "both": 1, "care": 1, "lone": 1, "lones": 1, "pairs": 10},
     {"all": 1, "both": 1, "care": 1, "lone": 1, "lones": 1, "pairs": 1, "any": 1})
+# What is no ascending tuple of indices of conversions, not even of a way of six.
+WRONG_LOTS = ODD + ("", "0", "01", (True,), (False,), (0, True), (False, 1), (0, 0), (1, 0), (0, 2, 1), (0, 1, 1), (-1,),
+                    (-1, 0), (6,), (0, 6), (5, 6), (10 ** 30,), (None,), ("0",), (b"0",), ((0,),), ([0],), ({},),
+                    (Equal(),), (0, None), (None, 1), [0], [0, 1], {0: 1}, {0}, range(1))
+WRONG_OFFERS = WRONG_LOTS + ((), (0, 1, 2, 3, 4), (1, 2, 3, 4, 5), (0, 1, 2, 3, 4, 5))
 # Some that are no texts, though they are strings.
 NO_TEXTS = ("x", "xrn", "rnx", "b", "N", "R", " ", "rn\n", "\r\n", "a n", "\u0430")
 PATTERNS = {"any": "[anr]*", "bare": "[an]*", "lone": "[ar]*", "paired": "(a|rn)*"}

@@ -39,6 +39,23 @@ EXAMPLES = {
 >>> [found, drafts({'care': 2, 'all': 1})[:6], list(cheapest(way, {'care': 2, 'all': 1}, 'any').partings), least_price(way, {'all': 1}, 'bare')]
 [[2, 1, None, 4], [(), ('all',), ('care',), ('all', 'all'), ('all', 'care'), ('care', 'all')], [(), ('all',)], 1]
 """,
+    "sparing": """
+>>> from turnedends.sparing import greatest_lots, lots, spare, without
+>>> way, offers = ('both', 'both', 'care'), (0, 1)
+>>> [lots(way, offers), [greatest_lots(way, offers, kind) for kind in ('any', 'bare', 'paired')], list(spare(way, offers, 'any').fails), without(way, (0, 2))]
+[[(), (0,), (1,), (0, 1)], [[(0,), (1,)], [(0, 1)], [(0, 1)]], [(0, 1)], ('both',)]
+""",
+    "merging": """
+>>> from turnedends.merging import Merged, does_merge, least_merging, merge
+>>> found = [[least_merging((word,), kind) for kind in ('any', 'bare', 'paired')] for word in ('all', 'both', 'care', 'lone', 'pairs')]
+>>> [found, does_merge(('both', 'all'), 'paired'), Merged('n', 'rn').shows(('pairs',), 'any'), merge(('all',), 'any').shows(('all',), 'any')]
+[[[None, None, None], [2, None, None], [3, None, None], [2, None, None], [3, None, None]], False, True, True]
+""",
+    "sources": """
+>>> from turnedends.sources import first_source, sources
+>>> [sources(('care',), 'arn', 'any'), sources(('both',), 'n', 'any'), sources(('both',), 'n', 'paired'), first_source(('all',), 'n', 'any'), sources((), 'ar', 'lone')]
+[['an', 'arn'], ['n', 'r', 'rn'], ['rn'], None, ['ar']]
+""",
 }
 
 

@@ -34,6 +34,21 @@ FUNCTIONS = {
         "cheapest": "(way, prices, kind)",
         "least_price": "(way, prices, kind)",
     },
+    "sparing": {
+        "lots": "(way, offers)",
+        "without": "(way, lot)",
+        "spare": "(way, offers, kind)",
+        "greatest_lots": "(way, offers, kind)",
+    },
+    "merging": {
+        "merge": "(way, kind)",
+        "does_merge": "(way, kind)",
+        "least_merging": "(way, kind)",
+    },
+    "sources": {
+        "sources": "(way, text, kind)",
+        "first_source": "(way, text, kind)",
+    },
 }
 CLASSES = {
     "errors": ("TurnError", "BadText", "BadKind", "BadWay", "BadStanding", "BadSign", "BadRounds", "BadLimit",
@@ -42,6 +57,8 @@ CLASSES = {
     "leading": ("Leads", "Strays"),
     "resting": ("Rests", "Restless"),
     "drafting": ("Cheapest", "NoDraft"),
+    "sparing": ("Spared",),
+    "merging": ("Distinct", "Merged"),
 }
 # For each class with evidence, what it is made of, and the arguments of its method.
 EVIDENCE = {
@@ -51,9 +68,12 @@ EVIDENCE = {
                 "Restless": ("texts", "(self, way, kind, limit)")},
     "drafting": {"Cheapest": ("draft, rows, partings", "(self, way, prices, kind)"),
                  "NoDraft": ("partings", "(self, way, prices, kind)")},
+    "sparing": {"Spared": ("good, fails", "(self, way, offers, kind)")},
+    "merging": {"Distinct": ("chases", "(self, way, kind)"), "Merged": ("one, other", "(self, way, kind)")},
 }
 # What an attribute may be, by its name.
-VALUES = {"rows": [], "text": "a", "texts": ["n"], "places": [], "number": 1, "draft": ("all",), "partings": {(): "n"}}
+VALUES = {"rows": [], "text": "a", "texts": ["n"], "places": [], "number": 1, "draft": ("all",), "partings": {(): "n"},
+          "good": {(): []}, "fails": {(0,): "n"}, "chases": [], "one": "n", "other": "r"}
 
 
 class InterfaceTest(unittest.TestCase):

@@ -5,7 +5,7 @@ from turnedends.walks import is_closed, search
 from turnedends.ways import ending, is_standing, starting, step, turn
 
 
-def _without_common(first, second):
+def without_common(first, second):
     """Returns two texts without what both begin with."""
     size = 0
     while size < len(first) and size < len(second) and first[size] == second[size]:
@@ -35,7 +35,7 @@ class RowWalk:
         first, second, _, ahead, lag = node
         first_behind, given = step(self.one, first, sign)
         second_behind, other_given = step(self.other, second, sign)
-        rests = _without_common(ahead + given, lag + other_given)
+        rests = without_common(ahead + given, lag + other_given)
         return first_behind, second_behind, is_half(self.kind, sign), rests[0], rests[1]
 
     def is_fine(self, node):
