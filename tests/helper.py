@@ -3,6 +3,8 @@
 import re
 from itertools import combinations, product
 
+from turnedends.ways import read
+
 SIGNS = "anr"
 WORDS = ("all", "both", "care", "lone", "lones", "pairs")
 # Those that hold back an r, those that remember one, and those that do neither.
@@ -105,6 +107,31 @@ def signs_behind(kind, waits):
     if kind == "paired":
         return "n" if waits else "ar"
     return {"bare": "an", "lone": "ar", "any": "anr"}[kind]
+
+
+def moves_at(way, kind, place):
+    """For each sign that can come at a place of a reader: the sign, the place behind it, and what is given out."""
+    found = []
+    for sign in sorted(signs_behind(kind, place[1])):
+        standing, given = read(way, place[0], sign)
+        found.append((sign, (standing, kind == "paired" and sign == "r"), given))
+    return found
+
+
+def places_of(way, kind):
+    """The list of all places that come about, the first one first."""
+    found = [((False,) * len(way), False)]
+    for place in found:
+        found += [behind for _, behind, _ in moves_at(way, kind, place) if behind not in found]
+    return found
+
+
+def flipped_places(way, place):
+    """All places that differ from one in one boolean."""
+    standing, waits = place
+    found = [(standing[:k] + (not standing[k],) + standing[k + 1:], waits)
+             for k, word in enumerate(way) if word not in NEITHER]
+    return found + [(standing, not waits)]
 
 
 class Images:

@@ -56,6 +56,30 @@ EXAMPLES = {
 >>> [sources(('care',), 'arn', 'any'), sources(('both',), 'n', 'any'), sources(('both',), 'n', 'paired'), first_source(('all',), 'n', 'any'), sources((), 'ar', 'lone')]
 [['an', 'arn'], ['n', 'r', 'rn'], ['rn'], None, ['ar']]
 """,
+    "stores": """
+>>> from turnedends.stores import Store
+>>> store = Store(('both',), ('care',))
+>>> rows = [store.edit('arnan'), store.take_in(), store.put_out(), store.edit('arnar')]
+>>> [rows, store.kept, store.working, store.undo(), store.working, store.journal[1], len(store), Store((), ('all',)).looks_changed()]
+[[True, False, False, False], 'anan', 'arnar', 'edit', 'arnarn', ('take', 'anan', 'arnan'), 3, False]
+""",
+    "texts": """
+>>> from turnedends.texts import read_ways, ways_text
+>>> [ways_text([('pairs', 'care'), ()]), read_ways('way pairs care\\nway\\n')]
+['way pairs care\\nway\\n', [('pairs', 'care'), ()]]
+""",
+    "rates": """
+>>> from turnedends.rates import Swelling, greatest_rate, least_rate
+>>> both = [[greatest_rate(way, kind), least_rate(way, kind)] for way, kind in ((('all',), 'any'), (('all',), 'paired'), (('pairs',), 'any'))]
+>>> [both, greatest_rate(('all', 'all'), 'bare'), Swelling((2, 1), '', 'n', {((False,), False): 0}).shows(('all',), 'any')]
+[[[(2, 1), (1, 1)], [(3, 2), (1, 1)], [(1, 1), (1, 2)]], (3, 1), True]
+""",
+    "fitting": """
+>>> from turnedends.fitting import distance, fit, least_change
+>>> rows = [(('care',), 'n', 'rn'), (('care',), 'an', 'an'), (('pairs',), 'rn', 'r'), (('both',), 'aa', 'n')]
+>>> [[least_change(way, 'any', text, wanted) for way, text, wanted in rows], fit(('pairs',), 'any', 'rn', 'r').text, distance('arn', 'ran'), fit(('care',), 'any', '', 'n').shows(('care',), 'any', '', 'n')]
+[[0, None, 1, 2], 'r', 2, True]
+""",
 }
 
 
@@ -72,6 +96,10 @@ class ExamplesTest(unittest.TestCase):
         for name, text in EXAMPLES.items():
             with self.subTest(name):
                 self.check(name, text)
+
+    def test_the_examples_of_all_modules_together(self):
+        self.assertEqual(len(EXAMPLES), 13)
+        self.check("all modules", "".join(EXAMPLES.values()))
 
     def test_the_example_of_the_readme(self):
         blocks = README.read_text("utf-8").split("```\n")[1::2]

@@ -49,6 +49,21 @@ FUNCTIONS = {
         "sources": "(way, text, kind)",
         "first_source": "(way, text, kind)",
     },
+    "stores": {},
+    "texts": {
+        "ways_text": "(ways)",
+        "read_ways": "(lines)",
+    },
+    "rates": {
+        "swell": "(way, kind, *, least=False)",
+        "greatest_rate": "(way, kind)",
+        "least_rate": "(way, kind)",
+    },
+    "fitting": {
+        "distance": "(text, other)",
+        "fit": "(way, kind, text, wanted)",
+        "least_change": "(way, kind, text, wanted)",
+    },
 }
 CLASSES = {
     "errors": ("TurnError", "BadText", "BadKind", "BadWay", "BadStanding", "BadSign", "BadRounds", "BadLimit",
@@ -59,6 +74,9 @@ CLASSES = {
     "drafting": ("Cheapest", "NoDraft"),
     "sparing": ("Spared",),
     "merging": ("Distinct", "Merged"),
+    "stores": ("Store",),
+    "rates": ("Swelling",),
+    "fitting": ("Fitted", "Unfit"),
 }
 # For each class with evidence, what it is made of, and the arguments of its method.
 EVIDENCE = {
@@ -70,10 +88,17 @@ EVIDENCE = {
                  "NoDraft": ("partings", "(self, way, prices, kind)")},
     "sparing": {"Spared": ("good, fails", "(self, way, offers, kind)")},
     "merging": {"Distinct": ("chases", "(self, way, kind)"), "Merged": ("one, other", "(self, way, kind)")},
+    "rates": {"Swelling": ("rate, ahead, ring, heights", "(self, way, kind, *, least=False)")},
+    "fitting": {"Fitted": ("text, floors", "(self, way, kind, text, wanted)"),
+                "Unfit": ("places", "(self, way, kind, text, wanted)")},
 }
 # What an attribute may be, by its name.
 VALUES = {"rows": [], "text": "a", "texts": ["n"], "places": [], "number": 1, "draft": ("all",), "partings": {(): "n"},
-          "good": {(): []}, "fails": {(0,): "n"}, "chases": [], "one": "n", "other": "r"}
+          "good": {(): []}, "fails": {(0,): "n"}, "chases": [], "one": "n", "other": "r", "rate": (1, 1), "ahead": "a",
+          "ring": "n", "heights": {((), False): 0}, "floors": {(0, ((), False), 0): 0}}
+METHODS_OF_A_STORE = {"__len__": "(self)", "looks_changed": "(self)", "edit": "(self, text)", "take_in": "(self)",
+                      "put_out": "(self)", "undo": "(self)", "branch": "(self)", "trial": "(self)",
+                      "attempt": "(self, work)"}
 
 
 class InterfaceTest(unittest.TestCase):
@@ -106,6 +131,17 @@ class InterfaceTest(unittest.TestCase):
                 attributes = made_of.split(", ")
                 found = kind(**{key: VALUES[key] for key in attributes})
                 self.assertEqual(vars(found), {key: VALUES[key] for key in attributes}, word)
+
+    def test_the_store(self):
+        store = importlib.import_module("turnedends.stores").Store
+        self.assertEqual(store.__bases__, (object,))
+        self.assertEqual(str(inspect.signature(store)), "(taken, put)")
+        for name, arguments in METHODS_OF_A_STORE.items():
+            self.assertTrue(inspect.isfunction(vars(store)[name]), name)
+            self.assertEqual(str(inspect.signature(vars(store)[name])), arguments, name)
+        for name in ("kept", "working", "journal"):
+            self.assertIs(vars(store)[name].__class__, property, name)
+            self.assertRaises(AttributeError, setattr, store((), ()), name, "a")
 
 
 if __name__ == "__main__":

@@ -124,6 +124,59 @@ class LanguageTest(unittest.TestCase):
                     self.assertNotIn(word, BARRED_NAMES, name)
             self.assertNotRegex(text, "dataclass|overload|contextmanager|namedtuple|Protocol|_wall|_WallAttr", name)
 
+    def test_methods_and_attributes(self):
+        methods, attributes, properties = {}, {}, set()
+        for name, _, tree in trees():
+            for outer in [node for node in ast.walk(tree) if isinstance(node, ast.ClassDef)]:
+                for node in [node for node in outer.body if isinstance(node, ast.FunctionDef)]:
+                    methods.setdefault(node.name, []).append(outer.name)
+                    decorators = [ast.unparse(word) for word in node.decorator_list]
+                    self.assertIn(decorators, ([], ["property"]), (name, node.name))
+                    properties |= {node.name} if decorators else set()
+                words = {node.attr for node in ast.walk(outer) if isinstance(node, ast.Attribute)
+                         and isinstance(node.ctx, ast.Store)}
+                attributes.update({word: outer.name for word in words})
+        self.assertEqual(sorted(set(methods) & set(attributes)), [])
+        self.assertEqual(sorted(properties), ["journal", "kept", "working"])
+        for word in [*methods, *attributes]:
+            if not word.startswith("__"):
+                for value in ("", 0, [], {}, set(), b""):
+                    self.assertFalse(hasattr(value, word), word)
+        for word in properties:
+            self.assertEqual(len(methods[word]), 1)
+
+    def test_double_underscore_methods(self):
+        allowed = {"__init__", "__eq__", "__len__", "__enter__", "__exit__"}
+        for name, _, tree in trees():
+            functions = [node for node in ast.walk(tree) if isinstance(node, ast.FunctionDef)]
+            for node in functions:
+                self.assertTrue(not node.name.startswith("__") or node.name in allowed, (name, node.name))
+            for node in [node for node in functions if node.name == "__len__"]:
+                self.assertRegex(ast.unparse(node.body[-1]), r"^return len\(.*\)$")
+            for node in [node for node in functions if node.name == "__exit__"]:
+                for row in node.body:
+                    self.assertIsInstance(row, ast.Assign)
+                    self.assertIsInstance(row.value, (ast.Attribute, ast.Constant))
+
+    def test_what_a_loop_iterates_over_is_not_assigned_in_it(self):
+        for name, _, tree in trees():
+            for loop in [node for node in ast.walk(tree) if isinstance(node, ast.For)]:
+                over = ast.unparse(loop.iter)
+                for node in ast.walk(ast.Module(loop.body, [])):
+                    if isinstance(node, ast.Subscript) and not isinstance(node.ctx, ast.Load):
+                        self.assertNotEqual(ast.unparse(node.value), over, name)
+                    if isinstance(node, ast.Attribute) and node.attr in ("append", "pop", "extend", "clear", "update"):
+                        self.assertNotEqual(ast.unparse(node.value), over, name)
+
+    def test_sets_generators_and_functions_within_functions(self):
+        barred = (ast.Set, ast.SetComp, ast.Yield, ast.YieldFrom, ast.GeneratorExp, ast.Nonlocal, ast.Try)
+        for name, _, tree in trees():
+            for node in ast.walk(tree):
+                self.assertNotIsInstance(node, barred, name)
+                if isinstance(node, ast.FunctionDef):
+                    within = [other for other in ast.walk(node) if isinstance(other, ast.FunctionDef)]
+                    self.assertEqual(within, [node], name)
+
     def test_no_two_files_import_from_each_other(self):
         imports = {}
         for path in FILES:

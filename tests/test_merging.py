@@ -3,8 +3,8 @@ import unittest
 from itertools import combinations, permutations, product
 from os.path import commonprefix
 
-from helper import (LONG_WAYS, NEITHER, NO_TEXTS, ODD, PATTERNS, WRONG_KINDS, WRONG_WAYS, Images, check_equality,
-                    check_refusals, signs_behind, texts, texts_of, ways)
+from helper import (LONG_WAYS, NO_TEXTS, ODD, PATTERNS, WRONG_KINDS, WRONG_WAYS, Images, check_equality,
+                    check_refusals, flipped_places, moves_at, places_of, texts, texts_of, ways)
 from turnedends import errors
 from turnedends.comparing import Alike, Parted
 from turnedends.kinds import KINDS
@@ -29,28 +29,20 @@ def cut(first, second, ahead, lag):
     return [] if ahead[size:] and lag[size:] else [(first, second, ahead[size:], lag[size:])]
 
 
-def reading(way, kind, place):
-    """The places behind all signs that can come at a place, each with what is given out."""
-    found = []
-    for sign in sorted(signs_behind(kind, place[1])):
-        standing, given = read(way, place[0], sign)
-        found.append(((standing, kind == "paired" and sign == "r"), given))
-    return found
-
-
 def doing(way, kind, place):
-    """What a reader can do: it reads a sign, or its text is over."""
-    return reading(way, kind, place) + ([] if place[1] else [(None, at_end(way, place[0]))])
+    """What a reader can do: it reads a sign, or its text is over; the places behind, and what is given out."""
+    found = [(behind, given) for _, behind, given in moves_at(way, kind, place)]
+    return found + ([] if place[1] else [(None, at_end(way, place[0]))])
 
 
 def beginning(way, kind, place):
     """The chases that begin at a place, from the words of the document."""
     found = []
-    rows = reading(way, kind, place)
-    for (first, given), (second, other_given) in combinations(rows, 2):
+    rows = moves_at(way, kind, place)
+    for (_, first, given), (_, second, other_given) in combinations(rows, 2):
         found += cut(first, second, given, other_given)
     if not place[1]:
-        for first, given in rows:
+        for _, first, given in rows:
             found += cut(first, None, given, at_end(way, place[0]))
     return found
 
@@ -65,16 +57,9 @@ def going_on(way, kind, chase):
     return []
 
 
-def all_places(way, kind):
-    found = [((False,) * len(way), False)]
-    for place in found:
-        found += [behind for behind, _ in reading(way, kind, place) if behind not in found]
-    return found
-
-
 def do_show(way, kind, chases):
     """Whether chases show that a way does not merge a kind, from the words of the document."""
-    wanted = [chase for place in all_places(way, kind) for chase in beginning(way, kind, place)]
+    wanted = [chase for place in places_of(way, kind) for chase in beginning(way, kind, place)]
     for chase in chases:
         first, second, ahead, lag = chase
         if set(ahead + lag) - set("anr") or ahead and lag or chase == (None, None, "", ""):
@@ -90,7 +75,7 @@ def chase_of(way, kind, one, other):
         one, other = other, one
     place = ((False,) * len(way), False)
     for sign in one[:size]:
-        place = dict(zip(sorted(signs_behind(kind, place[1])), reading(way, kind, place)))[sign][0]
+        place = {word: behind for word, behind, _ in moves_at(way, kind, place)}[sign]
     readers = [[place, list(one[size:])], [place, list(other[size:])]]
     given = ["", ""]
     chases = []
@@ -121,20 +106,12 @@ def chase_of(way, kind, one, other):
             return chases
 
 
-def flipped(way, place):
-    """All places that differ from one in one boolean, and the one of a text that is over."""
-    standing, waits = place
-    found = [(standing[:k] + (not standing[k],) + standing[k + 1:], waits)
-             for k, word in enumerate(way) if word not in NEITHER]
-    return found + [(standing, not waits), None]
-
-
 def changed(way, chase):
     """Many chases that differ from a chase in one item."""
     first, second, ahead, lag = chase
     start = ((False,) * len(way), False)
-    found = [(place, second, ahead, lag) for place in ([start] if first is None else flipped(way, first))]
-    found += [(first, place, ahead, lag) for place in ([start] if second is None else flipped(way, second))]
+    found = [(place, second, ahead, lag) for place in ([start] if first is None else flipped_places(way, first) + [None])]
+    found += [(first, place, ahead, lag) for place in ([start] if second is None else flipped_places(way, second) + [None])]
     for text in ("", "a", "n", "r", ahead + "a", "n" + lag, "x"):
         found += [(first, second, text, lag)] if text != ahead else []
         found += [(first, second, ahead, text)] if text != lag else []
@@ -288,7 +265,7 @@ class DistinctTest(unittest.TestCase):
             self.assertIs(Distinct([(None, None, "", "")] + OF_NONE[kind]).shows((), kind), False)
         # Closed, with all chases that come about; but some of them are caught.
         for way in (("pairs",), ("both",), ("care",), ("lone",)):
-            chases = [chase for place in all_places(way, "any") for chase in beginning(way, "any", place)]
+            chases = [chase for place in places_of(way, "any") for chase in beginning(way, "any", place)]
             for chase in chases:
                 chases += [behind for behind in going_on(way, "any", chase) if behind not in chases]
             self.assertIn((None, None, "", ""), chases)
@@ -324,7 +301,7 @@ class DistinctTest(unittest.TestCase):
         way = ("pairs", "care")
         found = merge(way, "bare")
         more = ((False, True), False)
-        self.assertNotIn(more, all_places(way, "bare"))
+        self.assertNotIn(more, places_of(way, "bare"))
         for ahead, lag in (("a", ""), ("n", ""), ("", "a")):
             chase = (more, None, ahead, lag)
             expected = do_show(way, "bare", found.chases + [chase])

@@ -259,6 +259,17 @@ class SparedTest(unittest.TestCase):
                     fails = {**found.fails, lot: rows.text}
                     self.assertIs(Spared(found.good, fails).shows(way, offers, kind), False)
 
+    def test_a_lot_within_a_greatest_one_instead_of_one_that_is_to_fail(self):
+        way, offers = ("all", "pairs", "lone"), (0, 1, 2)
+        found = spare(way, offers, "any")
+        self.assertEqual(list(found.good), [(0, 1)])
+        self.assertEqual(list(found.fails), [(2,), (0, 2), (1, 2), (0, 1, 2)])
+        for lot in ((0,), (1,)):
+            text = compare(way, left_out(way, lot), "any").text
+            for missing in found.fails:
+                fails = {key: found.fails[key] for key in found.fails if key != missing}
+                self.assertIs(Spared(found.good, {**fails, lot: text}).shows(way, offers, "any"), False)
+
     def test_a_good_lot_that_is_not_a_greatest_one(self):
         way, offers = ("both", "both", "care"), (0, 1)
         rows = {lot: compare(way, left_out(way, lot), "bare").rows for lot in all_lots(offers)}

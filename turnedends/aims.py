@@ -17,17 +17,17 @@ class AimWalk:
     def first(self):
         return self.reader.first(), 0
 
-    def moves(self, node):
-        """Returns for each sign that is fine at a node: the sign, and the node behind it."""
+    def steps(self, node):
+        """Returns for each sign that is fine at a node: the node behind it, that it costs one, and the sign."""
         place, done = node
-        return [(sign, (behind, done + len(given))) for sign, behind, given in self.reader.moves(place)
+        return [((behind, done + len(given)), 1, sign) for sign, behind, given in self.reader.moves(place)
                 if self.wanted.startswith(given, done)]
 
     def signs(self, node):
-        return [sign for sign, _ in self.moves(node)]
+        return [sign for _, _, sign in self.steps(node)]
 
     def behind(self, node, sign):
-        return {word: behind for word, behind in self.moves(node)}[sign]
+        return {word: behind for behind, _, word in self.steps(node)}[sign]
 
     def is_end(self, node):
         """Returns whether the text can be over at a node, and what is given out then is all that is wanted yet."""

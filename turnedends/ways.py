@@ -27,12 +27,15 @@ def is_conversion(word):
     return isinstance(word, str) and word in CONVERSIONS
 
 
+def is_way(way):
+    """Returns whether way is a tuple of at most six conversions."""
+    return isinstance(way, tuple) and len(way) <= LONGEST and all([is_conversion(word) for word in way])
+
+
 def check_way(way):
     """Raises BadWay unless way is a tuple of at most six conversions."""
-    if not isinstance(way, tuple) or len(way) > LONGEST:
+    if not is_way(way):
         raise BadWay("a way is a tuple of at most six conversions")
-    if not all([is_conversion(word) for word in way]):
-        raise BadWay("each item of a way is a conversion")
 
 
 def is_standing(way, standing):
